@@ -1,0 +1,1 @@
+"""Keys: a store of keys whose changes are gathered in transactions."""

@@ -14,18 +14,21 @@ ADD = 3
 LONGEST_KEY = 64
 LONGEST_VALUE = 300
 
+# Stands ahead of all keys where a key or none may be told.
+NO_BYTES = ()
+
 
 def is_key(row):
     return 1 <= len(row) <= LONGEST_KEY
 
 
+def is_start(row):
+    """Whether these are a key or no bytes."""
+    return len(row) <= LONGEST_KEY
+
+
 def is_value(row):
     return len(row) <= LONGEST_VALUE
-
-
-def settles(change, key):
-    """Whether the key's value no longer hangs on what it was before this change."""
-    return change[0] != ADD and change[1] == key
 
 
 def value_after(change, value):
@@ -37,10 +40,11 @@ def value_after(change, value):
     return count_raised(value, change[2])
 
 
-def value_by(changes, key, value):
-    """The value of one key, which had this one, when all these changes are done."""
-    now = value
-    for change in changes:
-        if change[1] == key:
-            now = value_after(change, now)
-    return now
+def change_of_both(earlier, later):
+    """The one change that does what two changes of a key do, one after the other."""
+    if later[0] != ADD:
+        return later
+    if earlier[0] == ADD:
+        # Maybe more than a change of a record can add; it is taken modulo 2^64 all the same.
+        return (ADD, later[1], earlier[2] + later[2])
+    return (PUT, later[1], value_after(later, earlier[2]))

@@ -5,6 +5,11 @@ COUNTS_END = 9223372036854775808
 COUNTS_IN_ALL = 18446744073709551616
 
 
+def is_number(number):
+    """Whether a count can be this number, or be so much more by a change."""
+    return -COUNTS_END <= number < COUNTS_END
+
+
 def low_first(number, length):
     """So many bytes of a number, which is taken modulo what they can hold."""
     row = []

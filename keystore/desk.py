@@ -1,9 +1,10 @@
 """The desk: a present state, older ones and transactions, and the calls on it."""
 
+from keystore.maps import DOWN, UP, empty_map
 from keystore.reader import Reader, WrongForm
 from keystore.record import read_record
 from keystore.replies import ABSENT, CLASH, DONE, WRONG, reply
-from keystore.state import empty_state, state_after
+from keystore.state import state_after
 from keystore.transaction import Transaction
 
 # Transactions are numbered from 0 on, and older states too: so many of each.
@@ -12,7 +13,7 @@ SLOTS = 8
 
 class Desk:
     def __init__(self):
-        self.present = empty_state()
+        self.present = empty_map()
         self.older_states = {}
         self.transactions = {}
 
@@ -55,8 +56,9 @@ def commit(desk, given):
     transaction = desk.transactions.pop(given[0])
     if transaction.clashes_with(desk.present):
         return reply(CLASH)
-    desk.present = state_after(desk.present, transaction.changes)
-    return reply(len(transaction.changes))
+    changes = transaction.draft.changes
+    desk.present = state_after(desk.present, changes)
+    return reply(len(changes))
 
 
 def drop(desk, given):
@@ -98,6 +100,38 @@ def put(transaction, given):
     return transaction.put(given[1], given[2])
 
 
+def remove(transaction, given):
+    return transaction.remove(given[1])
+
+
+def add(transaction, given):
+    return transaction.add(given[2], given[1])
+
+
+def next_key(transaction, given):
+    return transaction.nearest(given[2], given[1], UP)
+
+
+def key_before(transaction, given):
+    return transaction.nearest(given[2], given[1], DOWN)
+
+
+def count(transaction, given):
+    return transaction.count(given[2], given[3], given[1])
+
+
+def save(transaction, given):
+    return transaction.save()
+
+
+def back(transaction, given):
+    return transaction.back(given[1])
+
+
+def list_changes(transaction, given):
+    return transaction.list_changes()
+
+
 # How many whole numbers a call has, and how many rows behind them.
 FORMS = {
     1: (1, 0),
@@ -109,11 +143,30 @@ FORMS = {
     7: (0, 1),
     10: (1, 1),
     11: (1, 2),
+    12: (1, 1),
+    13: (2, 1),
+    14: (2, 1),
+    15: (2, 1),
+    16: (2, 2),
+    17: (1, 0),
+    18: (2, 0),
+    19: (1, 0),
 }
 
 DESK_CALLS = {1: begin, 2: older, 3: commit, 4: drop, 5: keep, 6: forget, 7: replay}
 
-STEPS = {10: get, 11: put}
+STEPS = {
+    10: get,
+    11: put,
+    12: remove,
+    13: add,
+    14: next_key,
+    15: key_before,
+    16: count,
+    17: save,
+    18: back,
+    19: list_changes,
+}
 
 
 def read_given(reader, call):

@@ -17,3 +17,12 @@ def value_reply(value):
     if value is None:
         return reply(ABSENT)
     return reply(len(value)) + list(value)
+
+
+def key_reply(key, value):
+    """How long a key's value is; the key, the value."""
+    return [len(value), len(key)] + list(key) + list(value)
+
+
+def record_reply(how_many, record):
+    return reply(how_many) + list(record)

@@ -4,14 +4,29 @@ import unittest
 
 import rows
 from rows import (
-    ABSENT, CLASH, DONE, NO_SLOTS, WRONG, ask, begin, changed, commit, drop, forget, found, get, keep, older, put,
-    replay, seen,
+    A, ABSENT, B, C, CLASH, DONE, NO_SLOTS, WRONG, ask, begin, changed, commit, drop, forget, found, get, keep,
+    older, put, replay, seen,
 )
 
-A = [65]
-B = [66]
-C = [67]
 SLOTS = range(8)
+
+
+def steps(i):
+    """Each step of transaction i, as it may be."""
+    return [
+        get(i, A), put(i, A, B), rows.remove(i, A), rows.add(i, 5, A), rows.next_key(i, 0, A), rows.before(i, 1, A),
+        rows.count(i, 5, [], A), rows.save(i), rows.back(i, 1), rows.list_changes(i),
+    ]
+
+
+def wrong_steps(i):
+    """Steps of transaction i that are refused with -1 where there is such a transaction."""
+    return [
+        get(i, []), get(i, A * 65), put(i, [], B), put(i, A * 65, B), put(i, A, [1] * 301), rows.remove(i, []),
+        rows.remove(i, A * 65), rows.add(i, 5, []), rows.add(i, 5, A * 65), rows.next_key(i, 0, A * 65),
+        rows.before(i, 1, A * 65), rows.count(i, 5, A * 65, A), rows.count(i, 5, A, []), rows.count(i, 5, A, A * 65),
+        rows.count(i, -1, A, A), rows.count(i, 1001, A, A),
+    ]
 
 
 class Slots(unittest.TestCase):
@@ -19,7 +34,8 @@ class Slots(unittest.TestCase):
         for number in NO_SLOTS:
             calls = [
                 begin(number), older(number, 0), older(0, number), older(number, number), commit(number),
-                drop(number), keep(number), forget(number), get(number, A), put(number, A, B),
+                drop(number), keep(number), forget(number), *steps(number), *wrong_steps(number),
+                rows.back(number, 0), rows.back(number, -1),
             ]
             for call in calls:
                 with self.subTest(call=call):
@@ -28,10 +44,27 @@ class Slots(unittest.TestCase):
 
     def test_0_to_7_without_any(self):
         for number in SLOTS:
-            for call in [older(0, number), commit(number), drop(number), forget(number), get(number, A),
-                         put(number, A, B)]:
+            calls = [older(0, number), commit(number), drop(number), forget(number), *steps(number),
+                     *wrong_steps(number), rows.back(number, 0)]
+            for call in calls:
                 with self.subTest(call=call):
                     self.assertEqual(ask(call), [ABSENT])
+                    self.assertEqual(ask(begin((number + 1) % 8), call)[1], ABSENT)
+
+    def test_steps_of_one_that_is_there(self):
+        for number in SLOTS:
+            with self.subTest(number=number):
+                of_a = rows.key_found(A, rows.count_bytes(5))
+                told = [found(B), DONE, DONE, DONE, ABSENT, of_a, [1, 0], [1, 0], DONE]
+                calls = [replay(rows.put_record(A, B)), begin(number)] + steps(number)
+                self.assertEqual(ask(*calls)[2:-1], told)
+                record = [rows.put_record(A, B), rows.remove_record(A), rows.add_record(A, 5)]
+                self.assertEqual(ask(*calls)[-1], rows.listed(*record))
+
+    def test_steps_of_one_leave_the_others(self):
+        calls = [begin(3), *steps(3), begin(4), get(4, A), rows.back(4, 1), rows.list_changes(4), commit(4)]
+        self.assertEqual(ask(*calls)[-4:], [ABSENT, ABSENT, DONE, DONE])
+        self.assertEqual(rows.looks_of(4, [begin(4), begin(3), *steps(3)]), 0)
 
     def test_0_to_7_with_one(self):
         for number in SLOTS:
@@ -54,24 +87,22 @@ class Slots(unittest.TestCase):
     def test_wrong_number_goes_ahead_of_all(self):
         for number in NO_SLOTS:
             with self.subTest(number=number):
-                calls = [get(number, []), put(number, [], B), put(number, A, [1] * 301), older(number, 3),
-                         older(3, number)]
-                self.assertEqual(ask(*calls), [WRONG] * 5)
+                self.assertEqual(ask(older(number, 3), older(3, number)), [WRONG] * 2)
 
     def test_no_transaction_goes_ahead_of_a_wrong_key(self):
-        calls = [get(0, []), get(0, A * 65), put(0, [], B), put(0, A, [1] * 301)]
-        self.assertEqual(ask(*calls), [ABSENT] * 4)
-        self.assertEqual(ask(begin(0), *calls)[1:], [WRONG] * 4)
+        calls = wrong_steps(0)
+        self.assertEqual(ask(*calls), [ABSENT] * len(calls))
+        self.assertEqual(ask(begin(0), *calls)[1:], [WRONG] * len(calls))
 
     def test_a_refusal_changes_nothing(self):
         kept = [begin(0), put(0, A, B), keep(0)]
         for number in NO_SLOTS:
             refused = [begin(number), older(number, 0), older(0, number), commit(number), drop(number),
-                       keep(number), forget(number), put(number, A, C), older(0, 5), commit(3), drop(3), forget(3)]
+                       keep(number), forget(number), *steps(number), older(0, 5), commit(3), drop(3), forget(3)]
             told = ask(*kept, *refused, get(0, A), commit(0), older(1, 0), get(1, A))
             with self.subTest(number=number):
-                self.assertEqual(told[3:15], [WRONG] * 8 + [ABSENT] * 4)
-                self.assertEqual(told[15:], [found(B), changed(1), DONE, ABSENT])
+                self.assertEqual(told[3:-4], [WRONG] * 17 + [ABSENT] * 4)
+                self.assertEqual(told[-4:], [found(B), changed(1), DONE, ABSENT])
 
 
 class Begin(unittest.TestCase):

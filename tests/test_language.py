@@ -96,7 +96,8 @@ class Forms(unittest.TestCase):
             given = node.args
             where = (path, node.name)
             self.assertEqual(node.decorator_list, [], where)
-            self.assertEqual((given.posonlyargs, given.kwonlyargs, given.vararg, given.kwarg), ([], [], None, None), where)
+            self.assertEqual(given.posonlyargs + given.kwonlyargs, [], where)
+            self.assertEqual((given.vararg, given.kwarg), (None, None), where)
             self.assertIsNone(node.returns, where)
             self.assertTrue(all(one.annotation is None for one in given.args), where)
 
@@ -118,6 +119,13 @@ class Forms(unittest.TestCase):
             for sign, side in zip(node.ops, node.comparators):
                 if isinstance(sign, (ast.Is, ast.IsNot)):
                     self.assertIsInstance(side, ast.Constant, (path, node.lineno))
+
+    def test_keywords_of_calls(self):
+        allowed = {"sorted": ["key", "reverse"], "min": ["key", "default"], "max": ["key", "default"], "sum": ["start"],
+                   "enumerate": ["start"], "zip": ["strict"]}
+        for path, node in nodes(ast.Call):
+            for keyword_given in node.keywords:
+                self.assertIn(keyword_given.arg, allowed.get(getattr(node.func, "id", None), []), (path, node.lineno))
 
     def test_comprehensions(self):
         for path, node in nodes(ast.ListComp):

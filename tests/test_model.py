@@ -4,190 +4,165 @@ import random
 import unittest
 
 import rows
-from keystore.desk import answers
+from model import Model, numbers_of, record_of
 
-KEYS = [[1], [2], [1, 0], [2] * 64, [], [3] * 65]
-VALUES = [[], [1], [1, 2], [0] * 8, [255] * 8, [7] * 300, [7] * 301]
-SLOTS = [0, 1, 2, 7, 0, 1, 2, 7, -1, 8]
-
-
-class Model:
-    """The document's words done with dicts that are copied whole."""
-
-    def __init__(self):
-        self.present = {}
-        self.kept = {}
-        self.running = {}
-
-    def answer(self, call):
-        number, *given = call
-        if number == 7:
-            return self.replay(given[0])
-        if any(not 0 <= slot <= 7 for slot in given if isinstance(slot, int)):
-            return rows.WRONG
-        return getattr(self, "call_%d" % number)(*given)
-
-    def replay(self, changes):
-        if changes is None:
-            return rows.WRONG
-        do_all(self.present, changes)
-        return rows.changed(len(changes))
-
-    def call_1(self, i):
-        self.running[i] = (dict(self.present), [], set())
-        return rows.DONE
-
-    def call_2(self, i, j):
-        if j not in self.kept:
-            return rows.ABSENT
-        self.running[i] = (dict(self.kept[j]), [], set())
-        return rows.DONE
-
-    def call_3(self, i):
-        if i not in self.running:
-            return rows.ABSENT
-        state, changes, looks = self.running.pop(i)
-        if any(state.get(key) != self.present.get(key) for key in looks):
-            return rows.CLASH
-        do_all(self.present, changes)
-        return rows.changed(len(changes))
-
-    def call_4(self, i):
-        return rows.ABSENT if self.running.pop(i, None) is None else rows.DONE
-
-    def call_5(self, j):
-        self.kept[j] = dict(self.present)
-        return rows.DONE
-
-    def call_6(self, j):
-        return rows.ABSENT if self.kept.pop(j, None) is None else rows.DONE
-
-    def call_10(self, i, key):
-        if i not in self.running:
-            return rows.ABSENT
-        if not 1 <= len(key) <= 64:
-            return rows.WRONG
-        state, changes, looks = self.running[i]
-        if all(change[1] != bytes(key) for change in changes):
-            looks.add(bytes(key))
-        seen = do_all(dict(state), changes)
-        return rows.found(seen[bytes(key)]) if bytes(key) in seen else rows.ABSENT
-
-    def call_11(self, i, key, value):
-        if i not in self.running:
-            return rows.ABSENT
-        if not 1 <= len(key) <= 64 or len(value) > 300:
-            return rows.WRONG
-        changes = self.running[i][1]
-        room = 4000 - sum(4 + len(change[1]) + len(change[2]) for change in changes)
-        if 4 + len(key) + len(value) > room:
-            return rows.FULL
-        changes.append(("put", bytes(key), value))
-        return rows.DONE
+KEYS = [[1], [1, 0], [1, 1], [2], [2, 0], [3], [9] * 64]
+WRONG_KEYS = [[], [3] * 65]
+VALUES = [[], [1], [1, 2], [0] * 8, [255] * 8, [7] * 300]
+ADDED = [0, 1, -1, 5, 2**63 - 1, -(2**63)]
+MOST = [0, 1, 2, 3, 5, 1000, -1, 1001]
+SLOTS = [0, 1, 2, 7] * 8 + [-1, 8]
+DESK_CALLS = [1, 2, 3, 3, 4, 5, 6, 7]
+STEPS = [10, 10, 11, 11, 12, 12, 13, 13, 14, 14, 15, 15, 16, 17, 18, 19]
 
 
-def do_all(state, changes):
-    for name, key, operand in changes:
-        if name == "put":
-            state[key] = operand
-        elif name == "remove":
-            state.pop(key, None)
-        elif len(state.get(key, [0] * 8)) == 8:
-            count = int.from_bytes(bytes(state.get(key, [0] * 8)), "little")
-            state[key] = rows.count_bytes(count + operand)
-    return state
+def drawn_key(draw):
+    return draw.choice(KEYS if draw.randrange(20) else WRONG_KEYS)
+
+
+def drawn_start(draw):
+    return draw.choice(KEYS + WRONG_KEYS[:1] * 2)
 
 
 def drawn_changes(draw):
     changes = []
     for turn in range(draw.randrange(4)):
-        key = bytes(draw.choice(KEYS[:4]))
         name = draw.choice(["put", "remove", "add"])
-        operand = {"put": draw.choice(VALUES[:6]), "remove": None, "add": draw.choice([1, -1, 2**63 - 1, -(2**63)])}
-        changes.append((name, key, operand[name]))
+        operand = {"put": draw.choice(VALUES), "remove": None, "add": draw.choice(ADDED)}
+        changes.append((name, bytes(draw.choice(KEYS)), operand[name]))
     return changes
 
 
-def record_of(changes):
-    record = []
-    for name, key, operand in changes:
-        if name == "put":
-            record += rows.put_record(key, operand)
-        elif name == "remove":
-            record += rows.remove_record(key)
-        else:
-            record += rows.add_record(key, operand)
-    return record
+def drawn_step(draw, i):
+    """A step of transaction i, for the model."""
+    number = draw.choice(STEPS)
+    given = {
+        10: [drawn_key(draw)],
+        11: [drawn_key(draw), draw.choice(VALUES if draw.randrange(20) else [[7] * 301])],
+        12: [drawn_key(draw)],
+        13: [draw.choice(ADDED), drawn_key(draw)],
+        14: [draw.randrange(2), drawn_start(draw)],
+        15: [draw.randrange(2), drawn_start(draw)],
+        16: [draw.choice(MOST), drawn_start(draw), drawn_key(draw)],
+        18: [draw.choice([1, 1, 2, 3, 0, 9])],
+    }
+    return (number, i, *given.get(number, []))
 
 
 def drawn_call(draw):
-    """A call for the model, and the same as numbers."""
-    number = draw.choice([1, 2, 3, 3, 4, 5, 6, 7, 10, 10, 10, 10, 11, 11, 11])
+    if draw.randrange(3):
+        return drawn_step(draw, draw.choice(SLOTS))
+    number = draw.choice(DESK_CALLS)
     if number == 7:
-        changes = drawn_changes(draw)
-        record = record_of(changes)
-        if draw.randrange(4) == 0:
-            return (7, None), rows.replay(record + [draw.choice([0, 1, 2, 3, 4])])
-        return (7, changes), rows.replay(record)
-    given = [draw.choice(SLOTS) for turn in range(2 if number == 2 else 1)]
-    numbers = [number] + given
-    for choices in [KEYS, VALUES][:max(0, number - 9)]:
-        row = draw.choice(choices)
-        given.append(row)
-        numbers = numbers + rows.counted(row)
-    return (number, *given), numbers
+        return (7, drawn_changes(draw))
+    return (number, *[draw.choice(SLOTS) for turn in range(2 if number == 2 else 1)])
 
 
 class AgainstTheModel(unittest.TestCase):
+    def held(self, calls, seed):
+        model = Model()
+        wanted = [model.answer(call) for call in calls]
+        told = rows.ask(*[numbers_of(call) for call in calls])
+        for place, answer in enumerate(told):
+            self.assertEqual(answer, wanted[place], (seed, place, calls[place]))
+        self.assertEqual(len(told), len(wanted))
+
     def test_drawn_calls(self):
-        for seed in range(300):
+        for seed in range(400):
             draw = random.Random(seed)
-            drawn = [drawn_call(draw) for turn in range(120)]
-            model = Model()
-            wanted = [model.answer(call) for call, numbers in drawn]
-            told = rows.apart(answers(rows.joined(numbers for call, numbers in drawn)))
-            for place, answer in enumerate(told):
-                self.assertEqual(answer, wanted[place], (seed, place, drawn[place]))
-            self.assertEqual(len(told), len(wanted))
+            self.held([drawn_call(draw) for turn in range(100)], seed)
+
+    def test_long_transactions(self):
+        for seed in range(100):
+            draw = random.Random(seed)
+            calls = [(7, [("put", bytes(key), draw.choice(VALUES)) for key in draw.sample(KEYS, 4)]), (1, 0)]
+            calls += [drawn_step(draw, 0) for turn in range(60)]
+            calls += [(7, drawn_changes(draw)), (3, 0), (1, 1), (16, 1, 9, [], [255])]
+            self.held(calls, seed)
+
+    def test_many_keys(self):
+        for seed in range(10):
+            draw = random.Random(seed)
+            keys = [bytes([draw.randrange(4) for place in range(draw.randrange(1, 5))]) for turn in range(200)]
+            calls = [(7, [("put", key, [1]) for key in keys[:100]]), (1, 0)]
+            for turn in range(150):
+                key = list(draw.choice(keys))
+                calls.append(draw.choice([
+                    (12, 0, key), (13, 0, 1, key), (11, 0, key, [2]), (14, 0, 0, key), (15, 0, 0, key), (14, 0, 1, key),
+                    (15, 0, 1, key), (16, 0, 20, key, [3] * 4), (17, 0), (18, 0, draw.randrange(1, 9)),
+                ]))
+            self.held(calls + [(16, 0, 300, [], [255]), (19, 0), (3, 0), (1, 0), (16, 0, 300, [], [255])], seed)
 
 
 class AsIfOneAfterAnother(unittest.TestCase):
-    """One that doesn't clash would have answered the same, run alone on the state there now."""
+    """One that doesn't clash would have answered the same, and changed the same, run alone."""
 
     def test_drawn_transactions(self):
-        committed = 0
-        for seed in range(300):
+        told_of = {"committed": 0, "looked beside others": 0, "clashed": 0}
+        for seed in range(500):
             draw = random.Random(seed)
-            steps = {i: [rows.begin(i)] for i in range(4)}
-            for i in steps:
-                for turn in range(draw.randrange(1, 5)):
-                    key = draw.choice(KEYS[:4])
-                    steps[i].append(draw.choice([rows.get(i, key), rows.put(i, key, draw.choice(VALUES[:6]))]))
-                steps[i].append(rows.commit(i))
-            at_once = self.mixed(draw, steps)
-            told = rows.ask(*[call for i, call in at_once])
-            done = [i for (i, call), answer in zip(at_once, told) if call == rows.commit(i) and answer != rows.CLASH]
-            committed += len(done)
-            one_by_one = [(i, call) for i in done for call in steps[i]]
-            alone = rows.ask(*[call for i, call in one_by_one], *rows.present(*KEYS[:4]))
-            for i in done:
-                self.assertEqual(
-                    [answer for (owner, call), answer in zip(at_once, told) if owner == i],
-                    [answer for (owner, call), answer in zip(one_by_one, alone) if owner == i],
-                    (seed, i),
-                )
-            self.assertEqual(rows.seen([call for i, call in at_once], *KEYS[:4]), alone[len(one_by_one) + 1:])
-        self.assertGreater(committed, 300)
+            self.run_of_many(self.drawn_run(draw), seed, told_of)
+        # Else the draw has become one that shows nothing.
+        self.assertGreater(told_of["committed"], 1000)
+        self.assertGreater(told_of["looked beside others"], 500)
+        self.assertGreater(told_of["clashed"], 500)
 
-    def mixed(self, draw, steps):
-        left = {i: list(calls) for i, calls in steps.items()}
-        order = []
-        while left:
-            i = draw.choice(sorted(left))
-            order.append((i, left[i].pop(0)))
-            if not left[i]:
-                del left[i]
-        return order
+    def drawn_run(self, draw):
+        calls = [(7, [("put", bytes(key), draw.choice(VALUES)) for key in draw.sample(KEYS, 3)]), (5, 0)]
+        calls += [(1, i) for i in range(4)]
+        for turn in range(80):
+            i = draw.randrange(4)
+            choice = draw.randrange(20)
+            if choice < 3:
+                # It begins anew at once: so there is mostly one to be committed.
+                calls += [(3, i), draw.choice([(1, i), (1, i), (2, i, 0)])]
+            elif choice == 3:
+                calls.append(draw.choice([(7, drawn_changes(draw)), (5, 0), (5, 0)]))
+            else:
+                calls.append(drawn_step(draw, i))
+        return calls
+
+    def run_of_many(self, calls, seed, told_of):
+        told = rows.ask(*[numbers_of(call) for call in calls])
+        model = Model()
+        steps = {}
+        for place, call in enumerate(calls):
+            if call[0] in (1, 2):
+                steps[call[1]] = ([], [], dict(model.present if call[0] == 1 else model.kept[0]))
+            elif call[0] >= 10 and call[1] in steps:
+                steps[call[1]][0].append(call)
+                steps[call[1]][1].append(told[place])
+            elif call[0] == 3 and call[1] in steps:
+                own, answers, state = steps.pop(call[1])
+                if told[place] == rows.CLASH:
+                    told_of["clashed"] += 1
+                else:
+                    told_of["committed"] += 1
+                    looked = any(step[0] in (10, 14, 15, 16) for step in own)
+                    told_of["looked beside others"] += looked and state != model.present
+                    after = self.alone(model.present, own + [call], answers + [told[place]], (seed, place))
+                    model.answer(call)
+                    self.assertEqual(after, self.walked([state_call(model.present)]), (seed, place))
+                    continue
+            model.answer(call)
+        self.assertEqual(
+            self.walked([numbers_of(call) for call in calls]), self.walked([state_call(model.present)]), seed,
+        )
+
+    def alone(self, state, own, answers, where):
+        """Runs a transaction alone on a state; gives back what is there then."""
+        calls = [state_call(state), rows.begin(own[-1][1])] + [numbers_of(call) for call in own]
+        self.assertEqual(rows.ask(*calls)[2:], answers, where)
+        return self.walked(calls)
+
+    def walked(self, calls):
+        """All that the present state has once the calls are made, key by key."""
+        asked = [rows.begin(7)] + [rows.next_key(7, 1, [])] + [rows.next_key(7, 0, key) for key in sorted(KEYS)]
+        return rows.ask(*calls, *asked)[len(calls) + 1:]
+
+
+def state_call(state):
+    return rows.replay(record_of([("put", key, value) for key, value in state.items()]))
 
 
 if __name__ == "__main__":

@@ -3,13 +3,10 @@
 import unittest
 
 import rows
-from rows import ABSENT, DONE, WRONG, add_record, ask, begin, changed, commit, count_bytes, found, get, keep, older
-from rows import put_record, remove_record, replay, seen
-
-A = [65]
-B = [66]
-MOST = 2**63 - 1
-LEAST = -(2**63)
+from rows import (
+    A, ABSENT, B, DONE, LEAST, MOST, WRONG, add_record, ask, begin, changed, commit, count_bytes, found, get, keep,
+    older, put_record, remove_record, replay, seen,
+)
 
 
 class Replay(unittest.TestCase):

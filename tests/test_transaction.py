@@ -3,14 +3,7 @@
 import unittest
 
 import rows
-from rows import ABSENT, DONE, FULL, WRONG, ask, begin, commit, found, get, put, replay, seen
-
-A = [65]
-B = [66]
-
-
-def key_number(number):
-    return [number // 256, number % 256]
+from rows import A, ABSENT, B, DONE, FULL, WRONG, ask, begin, commit, found, get, key_number, put, replay, seen
 
 
 class KeysAndValues(unittest.TestCase):
